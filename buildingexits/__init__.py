@@ -1,0 +1,1 @@
+"""Evacuation planner: how many people can leave a building in which time."""
