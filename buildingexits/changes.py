@@ -4,9 +4,9 @@ Each one answers a list of numbers: what the operation returns, or an error code
 All errors are looked for before anything is changed.
 """
 
-from buildingexits.building import Area, Passage, has_area, has_passage
-from buildingexits.limits import FULL, NOT_FOUND, OUT_OF_RANGE
-from buildingexits.limits import MAX_AREAS, MAX_CAPACITY, MAX_PASSAGES, MAX_PEOPLE, MAX_TRAVEL_TIME
+from buildingexits.building import Area, Passage, has_area, has_passage, put_capacity, put_people
+from buildingexits.limits import FULL, MAX_AREAS, MAX_PASSAGES, MAX_PEOPLE, NOT_FOUND, OUT_OF_RANGE
+from buildingexits.limits import is_capacity, is_travel_time
 
 
 def add_area(building, people, is_exit):
@@ -23,9 +23,9 @@ def set_people(building, area, people):
         return [NOT_FOUND]
     if people > MAX_PEOPLE:
         return [OUT_OF_RANGE]
-    previous = building.areas[area]
-    building.areas[area] = Area(people, previous.is_exit)
-    return [previous.people]
+    previous = building.areas[area].people
+    put_people(building, area, people)
+    return [previous]
 
 
 def set_exit(building, area, is_exit):
@@ -36,14 +36,6 @@ def set_exit(building, area, is_exit):
     previous = building.areas[area]
     building.areas[area] = Area(previous.people, is_exit)
     return [previous.is_exit]
-
-
-def is_capacity(capacity):
-    return 1 <= capacity <= MAX_CAPACITY
-
-
-def is_travel_time(travel_time):
-    return 1 <= travel_time <= MAX_TRAVEL_TIME
 
 
 def add_passage(building, source, target, capacity, travel_time):
@@ -69,9 +61,9 @@ def set_capacity(building, passage, capacity):
         return [NOT_FOUND]
     if not is_capacity(capacity):
         return [OUT_OF_RANGE]
-    previous = building.passages[passage]
-    building.passages[passage] = Passage(previous.source, previous.target, capacity, previous.travel_time)
-    return [previous.capacity]
+    previous = building.passages[passage].capacity
+    put_capacity(building, passage, capacity)
+    return [previous]
 
 
 def reverse_passages(building):

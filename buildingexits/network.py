@@ -1,5 +1,8 @@
 """Maximum flow through a network of nodes and arcs, by augmenting paths."""
 
+FORWARD = 0
+BACKWARD = 1
+
 
 class Network:
     """Nodes numbered from 0, and arcs with the room that is left in each.
@@ -25,17 +28,22 @@ def add_arc(network, start, end, room):
     add_half(network, end, start, 0)
 
 
-def arcs_of_arrival(network, source):
-    """For each node in reach of the source, the arc by which it was reached first."""
-    arrival = {source: None}
-    reached = [source]
+def arcs_of_arrival(network, origin, direction):
+    """For each node that is found from the origin, the arc by which it was found first.
+
+    FORWARD finds the nodes in reach of the origin through arcs with room, BACKWARD those
+    that have the origin in reach.
+    """
+    arrival = {origin: None}
+    found = [origin]
     walked = 0
-    while walked < len(reached):
-        for arc in network.arcs_from[reached[walked]]:
+    while walked < len(found):
+        for arc in network.arcs_from[found[walked]]:
             end = network.end_of[arc]
-            if network.room[arc] > 0 and end not in arrival:
+            # Backward, what counts is the room from `end` to here: that of the pair's other arc.
+            if network.room[arc ^ direction] > 0 and end not in arrival:
                 arrival[end] = arc
-                reached.append(end)
+                found.append(end)
         walked += 1
     return arrival
 
@@ -62,8 +70,8 @@ def push(network, path):
 def fill(network, source, sink):
     """Sends as much as possible from the source to the sink and tells how much that was."""
     flow = 0
-    arrival = arcs_of_arrival(network, source)
+    arrival = arcs_of_arrival(network, source, FORWARD)
     while sink in arrival:
         flow += push(network, path_back(network, arrival, sink))
-        arrival = arcs_of_arrival(network, source)
+        arrival = arcs_of_arrival(network, source, FORWARD)
     return flow

@@ -3,9 +3,13 @@
 from buildingexits.building import Building
 from buildingexits.changes import add_area, add_passage, remove_passage, reverse_passages
 from buildingexits.changes import set_capacity, set_exit, set_people
+from buildingexits.cuts import cut_capacity, min_cut
+from buildingexits.earliest import critical_passages, earliest_evacuation
+from buildingexits.earliest import earliest_if_capacity, earliest_if_people, max_people
 from buildingexits.evacuation import max_evacuated, min_remaining
 from buildingexits.limits import NO_PLANNER
-from buildingexits.listings import list_areas, list_passages
+from buildingexits.listings import get_state, list_areas, list_passages, outgoing_passages
+from buildingexits.plans import evacuated_by_plan, is_valid_plan
 
 CREATE = 0
 LAST_CHANGE = 7
@@ -42,6 +46,11 @@ def change(building, call):
     return reverse_passages(building)
 
 
+def list_of(call):
+    """The list that a call ends with; its length stands before it."""
+    return call[ARGUMENT_COUNTS[call[0]] + 2:]
+
+
 def look(building, call):
     operation = call[0]
     if operation == 8:
@@ -52,8 +61,27 @@ def look(building, call):
         return max_evacuated(building, call[1])
     if operation == 11:
         return min_remaining(building, call[1])
-    # Operations 12 to 22 aren't built yet: no number is answered, rather than a wrong one.
-    return []
+    if operation == 12:
+        return earliest_evacuation(building)
+    if operation == 13:
+        return min_cut(building, call[1])
+    if operation == 14:
+        return cut_capacity(building, call[1], list_of(call))
+    if operation == 15:
+        return is_valid_plan(building, list_of(call))
+    if operation == 16:
+        return evacuated_by_plan(building, call[1], list_of(call))
+    if operation == 17:
+        return earliest_if_capacity(building, call[1], call[2])
+    if operation == 18:
+        return earliest_if_people(building, call[1], call[2])
+    if operation == 19:
+        return max_people(building, call[1], call[2])
+    if operation == 20:
+        return critical_passages(building)
+    if operation == 21:
+        return outgoing_passages(building, call[1])
+    return get_state(building)
 
 
 def answer_of(building, call):

@@ -1,4 +1,8 @@
-"""The document's terms word by word, to compare the program with: all cuts, and all plans."""
+"""The document's terms word by word, to compare the program with: all cuts, and all plans.
+
+Areas are rows (people, is_exit), passages rows (source, target, capacity, travel_time),
+plans lists of rows (passage, minute, people).
+"""
 
 from itertools import product
 
@@ -17,6 +21,8 @@ def present(areas, passages, plan, area, minute):
 
 
 def is_valid(areas, passages, plan):
+    if any(number >= len(passages) or minute > LAST_MINUTE for number, minute, _ in plan):
+        return False
     for minute in range(LAST_MINUTE + 1):
         steps = [step for step in plan if step[1] == minute]
         for number, passage in enumerate(passages):
@@ -65,3 +71,70 @@ def all_cuts(areas, minute):
 
 def least_by_cuts(areas, passages, minute):
     return min(cut_capacity(areas, passages, minute, cut) for cut in all_cuts(areas, minute))
+
+
+def first_of_the_least_cuts(areas, passages, minute):
+    """The smallest capacity, and the lexicographically smallest cut that has it."""
+    return min((cut_capacity(areas, passages, minute, cut), cut) for cut in all_cuts(areas, minute))
+
+
+def can_all_be_out(areas, passages, minute):
+    return least_by_cuts(areas, passages, minute) == sum(area[0] for area in areas)
+
+
+def earliest(areas, passages):
+    for minute in range(LAST_MINUTE + 1):
+        if can_all_be_out(areas, passages, minute):
+            return minute
+    return -33
+
+
+def room_over_time(areas, passages, minute):
+    """How many can go from one place to another; a place is an area at a moment."""
+    room = {}
+    for number, (people, is_exit) in enumerate(areas):
+        room["start", (number, 0)] = people
+        if is_exit == 1:
+            room[(number, minute), "end"] = 1000
+        for moment in range(minute):
+            room[(number, moment), (number, moment + 1)] = 1000
+    for source, target, capacity, travel_time in passages:
+        for moment in range(minute + 1 - travel_time):
+            way = (source, moment), (target, moment + travel_time)
+            room[way] = room.get(way, 0) + capacity
+    return room
+
+
+def way_out(room, place, tried):
+    """Some way for one more person to the end, as a list of pairs, or None."""
+    if place == "end":
+        return []
+    tried.add(place)
+    for start, end in list(room):
+        if start == place and end not in tried and room[start, end] > 0:
+            further = way_out(room, end, tried)
+            if further is not None:
+                return [(start, end), *further]
+    return None
+
+
+def best_plan(areas, passages, minute):
+    """A plan that evacuates as many as can be by the minute."""
+    free = room_over_time(areas, passages, minute)
+    room = dict(free)
+    way = way_out(room, "start", set())
+    while way is not None:
+        for start, end in way:
+            room[start, end] -= 1
+            room[end, start] = room.get((end, start), 0) + 1
+        way = way_out(room, "start", set())
+    used = {way: free[way] - room[way] for way in free}
+    plan = []
+    for number, (source, target, capacity, travel_time) in enumerate(passages):
+        for moment in range(minute + 1 - travel_time):
+            way = (source, moment), (target, moment + travel_time)
+            people = min(capacity, used[way])
+            used[way] -= people
+            if people > 0:
+                plan.append((number, moment, people))
+    return plan

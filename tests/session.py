@@ -53,11 +53,23 @@ def last(*calls):
 
 
 LISTINGS = (("list_areas",), ("list_passages",))
+STATE = (*LISTINGS, ("get_state",))
 
 
 def listed(*calls):
     """What list_areas and list_passages answer behind these calls."""
     return run(*calls, *LISTINGS)[-2:]
+
+
+def seen(*calls):
+    """What the listings and get_state answer behind these calls."""
+    return run(*calls, *STATE)[-3:]
+
+
+def answers_of(areas, passages, *calls):
+    """What the calls answer behind those that make a building."""
+    start = building_calls(areas, passages)
+    return run(*start, *calls)[len(start):]
 
 
 def building_calls(areas, passages):

@@ -2,15 +2,8 @@
 
 import unittest
 
+from tests.samples import AREA_LIST, BUILDING, FULL_AREAS, FULL_PASSAGES, PASSAGE_LIST
 from tests.session import LARGEST, building_calls, last, listed, run
-
-AREAS = [(5, 0), (0, 1), (20, 0)]
-PASSAGES = [(0, 1, 2, 1), (1, 2, 9, 3), (0, 1, 4, 2)]
-BUILDING = building_calls(AREAS, PASSAGES)
-AREA_LIST = [3, 5, 0, 0, 1, 20, 0]
-PASSAGE_LIST = [3, 0, 1, 2, 1, 1, 2, 9, 3, 0, 1, 4, 2]
-FULL_AREAS = building_calls([(people, 0) for people in range(5)], [])
-FULL_PASSAGES = building_calls([(5, 0), (0, 1)], [(0, 1, capacity, 1) for capacity in range(1, 9)])
 
 
 class ChangeCase(unittest.TestCase):
@@ -205,22 +198,6 @@ class TestReversePassages(ChangeCase):
                  ("set_exit", 0, 1), ("max_evacuated", 1)]
         start = building_calls([(3, 0), (2, 1)], [(0, 1, 1, 1)])
         self.assertEqual(run(*start, *calls)[4:], [[3], [1], [2], [1], [0], [4]])
-
-
-class TestLists(unittest.TestCase):
-    def test_areas(self):
-        self.assertEqual(last(("create",), ("list_areas",)), [0])
-        self.assertEqual(last(*BUILDING, ("list_areas",)), AREA_LIST)
-        self.assertEqual(last(*FULL_AREAS, ("list_areas",)), [5, 0, 0, 1, 0, 2, 0, 3, 0, 4, 0])
-
-    def test_passages(self):
-        self.assertEqual(last(("create",), ("list_passages",)), [0])
-        self.assertEqual(last(*BUILDING, ("list_passages",)), PASSAGE_LIST)
-        self.assertEqual(len(last(*FULL_PASSAGES, ("list_passages",))), 33)
-
-    def test_people_and_exits_do_not_touch_the_passages(self):
-        found = listed(*BUILDING, ("set_people", 0, 1), ("set_exit", 0, 1), ("add_area", 2, 0))
-        self.assertEqual(found, [[4, 1, 1, 0, 1, 20, 0, 2, 0], PASSAGE_LIST])
 
 
 if __name__ == "__main__":

@@ -4,7 +4,8 @@ import random
 import unittest
 
 from tests import oracle
-from tests.session import LARGEST, building_calls, last, listed, run
+from tests.chance import any_areas, any_building, any_passages
+from tests.session import LARGEST, building_calls, last, run, seen
 
 MINUTES = range(6)
 
@@ -20,33 +21,6 @@ def remaining(areas, passages):
     calls = building_calls(areas, passages)
     found = run(*calls, *[("min_remaining", minute) for minute in MINUTES])
     return [answer[0] for answer in found[len(calls):]]
-
-
-def any_passages(chance, area_count, most_passages, capacities, travel_times):
-    passages = []
-    for _ in range(chance.randint(0, most_passages)):
-        source, target = chance.sample(range(area_count), 2)
-        passages.append((source, target, chance.choice(capacities), chance.choice(travel_times)))
-    return passages
-
-
-def any_areas(chance, area_count, most_people, exit_share):
-    return [(chance.randint(0, most_people), int(chance.random() < exit_share)) for _ in range(area_count)]
-
-
-class TestExamples(unittest.TestCase):
-    def test_one_passage(self):
-        calls = [*building_calls([(5, 0), (0, 1)], [(0, 1, 2, 1)]), ("max_evacuated", 1)]
-        self.assertEqual(run(*calls), [[0], [0], [1], [0], [2]])
-
-    def test_a_corridor(self):
-        calls = building_calls([(3, 0), (0, 0), (0, 1)], [(0, 1, 3, 1), (1, 2, 1, 1)])
-        found = run(*calls, ("max_evacuated", 2), ("min_remaining", 2))
-        self.assertEqual(found, [[0], [0], [1], [2], [0], [1], [1], [2]])
-
-    def test_errors(self):
-        calls = [("create",), ("add_area", 21, 0), ("add_area", 3, 0), ("add_passage", 0, 0, 1, 1)]
-        self.assertEqual(run(*calls), [[0], [-22], [0], [-22]])
 
 
 class TestByHand(unittest.TestCase):
@@ -126,7 +100,7 @@ class TestErrors(unittest.TestCase):
             for minute in (6, 7, 65536, LARGEST):
                 self.assertEqual(last(*start, (name, minute)), [-22])
                 self.assertEqual(last(("create",), (name, minute)), [-22])
-                self.assertEqual(listed(*start, (name, minute)), listed(*start))
+                self.assertEqual(seen(*start, (name, minute)), seen(*start))
 
 
 class TestRequirements(unittest.TestCase):
@@ -162,8 +136,7 @@ class TestRequirements(unittest.TestCase):
     def test_more_time_never_evacuates_fewer_nor_more_than_there_are(self):
         chance = random.Random(4)
         for _ in range(200):
-            areas = any_areas(chance, chance.randint(2, 5), 20, 0.3)
-            passages = any_passages(chance, len(areas), 8, range(1, 10), (1, 2, 3))
+            areas, passages = any_building(chance)
             total = sum(area[0] for area in areas)
             found = most(areas, passages)
             self.assertEqual(found, sorted(found), (areas, passages))

@@ -37,6 +37,15 @@ UNUSED = set(
 )
 
 
+NOT_AS_ATTRIBUTES = UNUSED | set(
+    "format format_map args encode f_back tb_next co_names sort".split()
+)
+LAZY = ("zip", "enumerate", "reversed", "range")
+WALKED_AT_ONCE_IN = ("list", "tuple", "dict", "sorted", "sum", "any", "all", "enumerate", "zip", "min", "max")
+KEYWORDS = {"sorted": {"key", "reverse"}, "min": {"key", "default"}, "max": {"key", "default"},
+            "sum": {"start"}, "enumerate": {"start"}, "zip": {"strict"}}
+
+
 def nodes(path):
     return ast.walk(ast.parse(path.read_text(encoding="utf-8")))
 
@@ -147,6 +156,107 @@ class TestNodes(unittest.TestCase):
                 else:
                     self.assertIsInstance(node, ast.Expr)
             self.assertEqual(len(names), len(set(names)), path.name)
+
+    def test_nothing_is_done_at_a_files_top(self):
+        for path in FILES:
+            tree = ast.parse(path.read_text(encoding="utf-8"))
+            self.assertIsNotNone(ast.get_docstring(tree), path.name)
+            for node in tree.body[1:]:
+                self.assertIsInstance(node, (ast.FunctionDef, ast.ClassDef, ast.ImportFrom, ast.Assign), path.name)
+                if isinstance(node, ast.Assign):
+                    self.assertNotIsInstance(node.value, (ast.Call, ast.ListComp), path.name)
+
+    def test_no_annotation_and_no_default(self):
+        for path in FILES:
+            for node in nodes(path):
+                self.assertNotIsInstance(node, ast.AnnAssign, path.name)
+                if isinstance(node, ast.FunctionDef):
+                    self.assertIsNone(node.returns, node.name)
+                    self.assertEqual([plain.arg for plain in node.args.args if plain.annotation], [], node.name)
+                    self.assertEqual(node.args.defaults, [], node.name)
+
+    def test_is_stands_beside_none_true_and_false_alone(self):
+        for path in FILES:
+            for node in nodes(path):
+                if isinstance(node, ast.Compare) and isinstance(node.ops[0], (ast.Is, ast.IsNot)):
+                    self.assertIsInstance(node.comparators[0], ast.Constant, (path.name, node.lineno))
+                    self.assertIn(node.comparators[0].value, (None, True, False), (path.name, node.lineno))
+
+    def test_classes_are_plain(self):
+        for path in FILES:
+            for node in nodes(path):
+                if isinstance(node, ast.ClassDef):
+                    self.assertEqual((node.bases, node.keywords, node.decorator_list), ([], [], []), node.name)
+                    for inner in node.body[1:]:
+                        self.assertIsInstance(inner, ast.FunctionDef, node.name)
+
+    def test_values_of_objects(self):
+        own = set(dir(str) + dir(int) + dir(list) + dir(dict) + dir(set) + dir(bytes) + dir(tuple))
+        for path in FILES:
+            for node in nodes(path):
+                if isinstance(node, ast.Attribute):
+                    where = (path.name, node.attr, node.lineno)
+                    self.assertNotIn(node.attr, NOT_AS_ATTRIBUTES, where)
+                    if isinstance(node.ctx, ast.Store):
+                        self.assertNotIn(node.attr, own, where)
+
+    def test_no_local_is_called_like_an_import_or_a_class(self):
+        for path in FILES:
+            tree = ast.parse(path.read_text(encoding="utf-8"))
+            at_top = {node.name for node in tree.body if isinstance(node, ast.ClassDef)}
+            for node in tree.body:
+                if isinstance(node, ast.ImportFrom):
+                    at_top.update(name.name for name in node.names)
+            for node in ast.walk(tree):
+                if isinstance(node, ast.arg):
+                    self.assertNotIn(node.arg, at_top, path.name)
+                elif isinstance(node, ast.Name) and isinstance(node.ctx, ast.Store):
+                    self.assertNotIn(node.id, at_top, path.name)
+
+    def test_what_is_lazy_is_walked_at_once(self):
+        for path in FILES:
+            lazy, walked = [], []
+            for node in nodes(path):
+                if isinstance(node, (ast.For, ast.comprehension)):
+                    walked.append(node.iter)
+                elif isinstance(node, ast.Call) and isinstance(node.func, ast.Name):
+                    if node.func.id in LAZY:
+                        lazy.append(node)
+                    if node.func.id in WALKED_AT_ONCE_IN:
+                        walked.extend(node.args[:1])
+            for node in lazy:
+                self.assertTrue(any(node is place for place in walked), (path.name, node.lineno))
+
+    def test_keywords(self):
+        for path in FILES:
+            for node in nodes(path):
+                if isinstance(node, ast.Call) and node.keywords:
+                    allowed = KEYWORDS.get(getattr(node.func, "id", ""), set())
+                    self.assertLessEqual({word.arg for word in node.keywords}, allowed, (path.name, node.lineno))
+
+    def test_powers_have_a_written_exponent(self):
+        for path in FILES:
+            for node in nodes(path):
+                if isinstance(node, ast.BinOp) and isinstance(node.op, ast.Pow):
+                    self.assertIsInstance(node.right, ast.Constant, (path.name, node.lineno))
+
+
+class TestThePackage(unittest.TestCase):
+    def test_answers_stands_in_planner_alone(self):
+        for path in FILES:
+            names = [node.name for node in ast.parse(path.read_text(encoding="utf-8")).body
+                     if isinstance(node, (ast.FunctionDef, ast.ClassDef))]
+            self.assertEqual("answers" in names, path.name == "planner.py", path.name)
+
+    def test_no_name_is_a_method_and_a_value(self):
+        methods, values = set(), set()
+        for path in FILES:
+            for node in nodes(path):
+                if isinstance(node, ast.ClassDef):
+                    methods.update(inner.name for inner in node.body if isinstance(inner, ast.FunctionDef))
+                elif isinstance(node, ast.Attribute) and isinstance(node.ctx, ast.Store):
+                    values.add(node.attr)
+        self.assertEqual(methods & values, set())
 
 
 if __name__ == "__main__":
